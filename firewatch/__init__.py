@@ -1,0 +1,1 @@
+"""Bearings: where a fire may be, by what its towers tell."""
