@@ -1,4 +1,7 @@
-"""The package's own files keep to the rules of LANGUAGE.md, as far as a walk through them can see."""
+"""The package's own files keep to rules of LANGUAGE.md: files, signs, sizes, statements, names, methods, imports.
+
+Not looked at here: L13, L15 (but names), L18 (but methods and values), L19, L22 to L24, L27, L28.
+"""
 
 import ast
 import builtins
