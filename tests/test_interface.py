@@ -17,6 +17,15 @@ LINE = [
     2, 1, 0,
     1, 0, 0, 1, 4, 10, 20, 20, 10,
     3,
+    6,
+    1, 0, 0, 0, 2, 20, 10,
+    4, 0, 5,
+    4, 0, 6,
+    5,
+    6,
+    2, 2, 0,
+    5,
+    6,
 ]
 ANSWERED = [
     5, 4, 0, 1, 2, 3,
@@ -33,6 +42,15 @@ ANSWERED = [
     1, 3,
     1, -3,
     4, 3, 0, 1, 3,
+    1, 0,
+    1, 2,
+    1, 1,
+    1, -2,
+    2, 2, 2,
+    1, 1,
+    1, 1,
+    1, -6,
+    1, 0,
 ]
 
 
@@ -46,6 +64,9 @@ class Interface(unittest.TestCase):
         self.assertEqual(answers([1, 0, 0, 0, 0]), [1, 0])
         self.assertEqual(answers([2, 0, 0]), [1, -2])
         self.assertEqual(answers([3]), [5, 4, 0, 1, 2, 3])
+        self.assertEqual(answers([4, 0, 0]), [1, -2])
+        self.assertEqual(answers([5]), [1, -6])
+        self.assertEqual(answers([6]), [1, 0])
 
     def test_the_list_handed_in_stays_the_same(self):
         line = list(LINE)
